@@ -133,29 +133,28 @@ func isPrimitive(v []int) bool {
 	return divisor == 1 && v[first] > 0
 }
 
-// checkNullspace compares with the columns that do not raise the rank; up to a factor there is one vector for each.
-func checkNullspace(t *testing.T, m [][]int, rankOf func([][]int, int) int) {
+// checkNullspace compares with the columns that do not raise the rank; up to a factor there is one vector for each. The matrix may have no rows.
+func checkNullspace(t *testing.T, m [][]int, width int, basis [][]int, rankOf func([][]int, int) int) {
 	var free []int
-	for column := range m[0] {
+	for column := range width {
 		if rankOf(m, column+1) == rankOf(m, column) {
 			free = append(free, column)
 		}
 	}
-	basis := impl.NullspaceOf(m)
 	if len(basis) != len(free) {
-		t.Fatalf("NullspaceOf(%v) = %v, but the columns %v are free", m, basis, free)
+		t.Fatalf("the null space of %v is %v, but the columns %v are free", m, basis, free)
 	}
 	for i, v := range basis {
-		if len(v) != len(m[0]) || slices.ContainsFunc(productByDefinition(m, v), func(n int) bool { return n != 0 }) {
-			t.Fatalf("NullspaceOf(%v) has %v", m, v)
+		if len(v) != width || slices.ContainsFunc(productByDefinition(m, v), func(n int) bool { return n != 0 }) {
+			t.Fatalf("the null space of %v has %v", m, v)
 		}
 		for _, column := range free {
 			if (v[column] != 0) != (column == free[i]) {
-				t.Fatalf("NullspaceOf(%v) has %v for column %d", m, v, free[i])
+				t.Fatalf("the null space of %v has %v for column %d", m, v, free[i])
 			}
 		}
 		if !isPrimitive(v) {
-			t.Fatalf("NullspaceOf(%v) has %v, which is not primitive", m, v)
+			t.Fatalf("the null space of %v has %v, which is not primitive", m, v)
 		}
 	}
 }
@@ -165,7 +164,7 @@ func checkMatrix(t *testing.T, m [][]int, rankOf func([][]int, int) int) {
 	if !impl.IsMatrix(m) || impl.RankOfMatrix(m) != rank {
 		t.Fatalf("%v is valid: %v; its rank is %d, want %d", m, impl.IsMatrix(m), impl.RankOfMatrix(m), rank)
 	}
-	checkNullspace(t, m, rankOf)
+	checkNullspace(t, m, len(m[0]), impl.NullspaceOf(m), rankOf)
 	x := impl.TransposeMatrix(m)
 	if !sameSets(x, transposedByDefinition(m)) {
 		t.Fatalf("TransposeMatrix(%v) = %v", m, x)
